@@ -1,0 +1,1 @@
+"""Shogi: positions in texts, every legal move, games played on."""

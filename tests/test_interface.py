@@ -1,0 +1,18 @@
+"""The names, arguments and kinds that the interface tells."""
+
+import inspect
+import unittest
+
+import komadai.board
+
+
+class Interface(unittest.TestCase):
+    def test_names_and_arguments(self):
+        arguments = {"sg_set": ["text"], "sg_text": ["position"]}
+        for name, expected in arguments.items():
+            call = getattr(komadai.board, name)
+            self.assertEqual(list(inspect.signature(call).parameters), expected)
+
+
+if __name__ == "__main__":
+    unittest.main()
