@@ -5,6 +5,7 @@ LANCE = 2
 KNIGHT = 3
 GOLD = 5
 KING = 8
+PROMOTED = 8
 SECOND = 16
 
 # At each piece's number its name; the numbers that are no piece have the empty text.
@@ -35,6 +36,12 @@ FAR_STEPS = {
 # Promoted pawn, lance, knight and silver.
 LIKE_GOLD = (9, 10, 11, 12)
 
+# All but gold, king and what is promoted already.
+CAN_PROMOTE = (1, 2, 3, 4, 6, 7)
+
+# Rooks first, as hands are told.
+HAND_KINDS = (7, 6, 5, 4, 3, 2, 1)
+
 
 def is_piece(number):
     return number < len(PIECE_NAMES) and PIECE_NAMES[number] != ""
@@ -42,6 +49,11 @@ def is_piece(number):
 
 def side_of(piece):
     return piece // SECOND
+
+
+# An empty square is nobody's.
+def belongs_to(piece, side):
+    return piece != 0 and side_of(piece) == side
 
 
 # The kind with its promotion: 1 to 15.

@@ -1,6 +1,7 @@
 """Which positions can be."""
 
 from komadai.pieces import KING, KNIGHT, LANCE, PAWN, SECOND, is_piece, kind_of, plain_kind_of, side_of
+from komadai.places import TURN, hands_of, squares_of
 from komadai.reach import in_check, rows_ahead
 
 # At each kind's number how many of it there may be in all, from pawns to rooks.
@@ -8,13 +9,12 @@ MOST_OF_KIND = (0, 18, 4, 4, 4, 4, 2, 2)
 
 
 def can_be(position):
-    squares = position[0:81]
-    hands = position[81:95]
-    turn = position[95]
+    squares = squares_of(position)
+    turn = position[TURN]
     return (
         turn in (0, 1)
         and pieces_are_known(squares)
-        and no_kind_is_too_many(squares, hands)
+        and no_kind_is_too_many(squares, hands_of(position))
         and kings_are_there(squares)
         and no_column_has_two_pawns(squares)
         and no_piece_is_stuck(squares)

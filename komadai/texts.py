@@ -1,16 +1,13 @@
 """Positions told as texts, and texts read as positions."""
 
-from komadai.pieces import KING, PIECE_NAMES, SECOND, kind_of, side_of
+from komadai.pieces import HAND_KINDS, KING, PIECE_NAMES, SECOND, kind_of, side_of
+from komadai.places import NUMBER, TURN, hand_place, hands_of
 
 # Every sign that a position's text can have.
 SIGNS = " +-/0123456789BGKLNPRSbgklnprsw"
 
-# Rooks first, as hands are told.
-HAND_KINDS = (7, 6, 5, 4, 3, 2, 1)
-
-
-def hand_place(kind, side):
-    return 7 * side + kind - 1
+# How many of a kind a position's hand has room for.
+MOST_IN_HAND = 255
 
 
 def codes_of(text):
@@ -28,9 +25,9 @@ def text_of(codes):
 def write_position(position):
     rows = [write_row(position[start:start + 9]) for start in range(0, 81, 9)]
     board = "/".join(rows)
-    turn = "b" if position[95] == 0 else "w"
-    hands = write_hands(position[81:95])
-    number = str(position[96])
+    turn = "b" if position[TURN] == 0 else "w"
+    hands = write_hands(hands_of(position))
+    number = str(position[NUMBER])
     return f"{board} {turn} {hands} {number}"
 
 
@@ -73,10 +70,11 @@ def read_position(text):
     if len(parts) != 4 or not parts[3].isdigit():
         return None
     squares = read_board(parts[0])
-    if len(squares) != 81:
+    hands = read_hands(parts[2])
+    if len(squares) != 81 or max(hands) > MOST_IN_HAND:
         return None
     turn = 1 if parts[1] == "w" else 0
-    position = squares + read_hands(parts[2]) + [turn, int(parts[3])]
+    position = squares + hands + [turn, int(parts[3])]
     return position if write_position(position) == text else None
 
 

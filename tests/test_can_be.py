@@ -3,7 +3,7 @@
 import unittest
 
 from komadai.board import sg_text
-from tests.helper import answer_to, put_together, text_from
+from tests.helper import answer_to, apart, between, goes, put_together, stuck, text_from
 
 KINGS = {4: 24, 76: 8}
 NO_PIECE = (13, 16, 29) + tuple(range(32, 256))
@@ -12,59 +12,12 @@ NO_PIECE = (13, 16, 29) + tuple(range(32, 256))
 MOST = {1: 18, 2: 4, 3: 4, 4: 4, 5: 4, 6: 2, 7: 2}
 
 
-# Whether a piece alone on the board goes so many rows ahead and columns aside.
-def goes(kind, ahead, aside):
-    aside = abs(aside)
-    beside = max(abs(ahead), aside) == 1
-    gold = beside and not (ahead == -1 and aside == 1)
-    aslant = abs(ahead) == aside != 0
-    straight = (ahead == 0) != (aside == 0)
-    ways = {
-        1: ahead == 1 and aside == 0,
-        2: ahead >= 1 and aside == 0,
-        3: ahead == 2 and aside == 1,
-        4: beside and (ahead == 1 or ahead == -1 and aside == 1),
-        5: gold,
-        6: aslant,
-        7: straight,
-        8: beside,
-        9: gold, 10: gold, 11: gold, 12: gold,
-        14: aslant or beside,
-        15: straight or beside,
-    }
-    return ways[kind]
-
-
-def row_and_column(square):
-    return square // 9, square % 9
-
-
-def apart(one, other):
-    row, column = row_and_column(one)
-    other_row, other_column = row_and_column(other)
-    return max(abs(row - other_row), abs(column - other_column))
-
-
-def between(square, one, other):
-    row, column = row_and_column(square)
-    first_row, first_column = row_and_column(one)
-    last_row, last_column = row_and_column(other)
-    crossed = (row - first_row) * (last_column - first_column) - (column - first_column) * (last_row - first_row)
-    inside = min(first_row, last_row) <= row <= max(first_row, last_row)
-    inside = inside and min(first_column, last_column) <= column <= max(first_column, last_column)
-    return crossed == 0 and inside
-
-
 # A square for the checking player's own king where it neither gives check nor stands between.
 def quiet_square(square, target):
     for place in (0, 8, 72, 80, 22, 58):
         if apart(place, target) > 1 and not between(place, square, target):
             return place
     raise AssertionError("no quiet square")
-
-
-def stuck(kind, ahead_rows):
-    return ahead_rows < {1: 1, 2: 1, 3: 2}.get(kind, 0)
 
 
 class Pieces(unittest.TestCase):
@@ -161,8 +114,8 @@ class HowMany(unittest.TestCase):
 
     def test_told_by_a_text(self):
         for hand, first in (("19P", -2), ("18P", 0), ("5L", -2), ("4L", 0), ("5N", -2), ("5S", -2), ("5G", -2),
-                            ("3B", -2), ("3R", -2), ("255P", -2), ("256P", -2), ("300p", -2), ("R2r", -2),
-                            ("9P10p", -2), ("9P9p", 0), ("4Gg", -2), ("65537R", -2), ("4294967297P", -2)):
+                            ("3B", -2), ("3R", -2), ("20P", -2), ("255P", -2), ("255r", -2), ("R2r", -2),
+                            ("9P10p", -2), ("9P9p", 0), ("4Gg", -2), ("255R255B255G255S255N255L255P", -2)):
             self.assertEqual(answer_to(f"4k4/9/9/9/9/9/9/9/4K4 b {hand} 1")[0], first, hand)
 
 

@@ -8,7 +8,9 @@ import komadai.board
 
 class Interface(unittest.TestCase):
     def test_names_and_arguments(self):
-        arguments = {"sg_set": ["text"], "sg_text": ["position"]}
+        arguments = {
+            "sg_set": ["text"], "sg_text": ["position"], "sg_moves": ["most", "position"], "sg_play": ["move", "position"],
+        }
         for name, expected in arguments.items():
             call = getattr(komadai.board, name)
             self.assertEqual(list(inspect.signature(call).parameters), expected)

@@ -143,6 +143,17 @@ class NotTold(unittest.TestCase):
         # The second player's bishop in hand looks like a turn, and is none.
         self.assertEqual(answer_to(f"{BOARD} b b 1")[0], 0)
 
+    # A position has no more than 255 of a kind in a hand: what tells more tells no position.
+    def test_more_than_a_hand_has_room_for(self):
+        for amount in ("256", "257", "258", "300", "511", "512", "1000", "65535", "65536", "65537", "4294967297"):
+            for letter in "RBGSNLPrbgsnlp":
+                self.refused((f"{BOARD} b {amount}{letter} 1",))
+            self.refused((f"{BOARD} w {amount}RP 1", f"{BOARD} b R{amount}p 1", f"{BOARD} w 255R{amount}B255p 1"))
+        for letter in "RBGSNLPrbgsnlp":
+            self.assertEqual(answer_to(f"{BOARD} b 255{letter} 1"), [-2], letter)
+            self.assertEqual(answer_to(f"{BOARD} b 19{letter} 1"), [-2], letter)
+        self.assertEqual(answer_to(f"{BOARD} b 18P 1")[0], 0)
+
     def test_every_wrong_order_of_two_letters(self):
         order = "RBGSNLPrbgsnlp"
         for first in range(14):
@@ -175,6 +186,7 @@ class NotTold(unittest.TestCase):
         self.refused((
             "9/9/9/9/9/9/9/9/9 b - 0", "9/9/9/9/9/9/9/9/9 b - 65535", "9/9/9/9/9/9/9/9/9 x - 1",
             "9/9/9/9/9/9/9/9/9 b 1P 1", "9/9/9/9/9/9/9/9/9 b 19P2R1B 1", f"{BOARD} b 19P 65535",
+            "9/9/9/9/9/9/9/9/9 b 256P 1", f"{BOARD} b 255P256p 1",
         ))
 
     def test_text_of_256_bytes(self):
@@ -185,16 +197,19 @@ class NotTold(unittest.TestCase):
         for text in (f"{BOARD} b - {'1' * 300}", f"{BOARD} b - 1{' ' * 300}", f"{BOARD} b {'P' * 300}", "+P" * 200):
             self.assertEqual(sg_set(codes(text)[:256]), [-1])
 
-    def test_256_bytes_told_as_they_should_be(self):
-        start = f"{BOARD} b "
-        text = start + "9" * (256 - len(start) - len("P 1")) + "P 1"
-        self.assertEqual(len(text), 256)
+    def test_the_longest_that_tells_something(self):
+        board = "/".join(["+P" * 9] * 9)
+        hands = "".join("255" + letter for letter in "RBGSNLPrbgsnlp")
+        text = f"{board} w {hands} 65534"
+        self.assertEqual(len(text), 235)
         self.assertEqual(answer_to(text), [-2])
 
-    def test_more_than_256_bytes(self):
-        start = f"{BOARD} b "
-        text = start + "9" * (257 - len(start) - len("P 1")) + "P 1"
-        self.assertEqual(answer_to(text), [-1])
+    def test_256_bytes_and_more(self):
+        for length in (255, 256, 257, 5000):
+            start = f"{BOARD} b "
+            text = start + "9" * (length - len(start) - len("P 1")) + "P 1"
+            self.assertEqual(len(text), length)
+            self.assertEqual(answer_to(text), [-1])
 
 
 if __name__ == "__main__":
