@@ -1,26 +1,39 @@
 """Every legal move of a position that can be."""
 
-from komadai.pieces import CAN_PROMOTE, HAND_KINDS, KING, PAWN, SECOND, belongs_to, kind_of, near_steps, side_of
+from komadai.pieces import (
+    CAN_PROMOTE, HAND_KINDS, KING, KNIGHT, LANCE, PAWN, SECOND, belongs_to, kind_of, near_steps, side_of,
+)
 from komadai.places import HANDS, TURN, hand_place, squares_of
-from komadai.play import FROM_HAND, PROMOTES, move_number, position_after, source_of, target_of
+from komadai.play import FROM_HAND, PROMOTES, move_number, position_after
 from komadai.reach import checking_lines, in_check, pinning_lines, rows_ahead, square_after, squares_in_reach
 from komadai.rules import never_moves
 
 
 def legal_moves(position):
-    return sorted([move for move in safe_moves(position) if not is_mate_by_pawn(move, position)])
+    moves = safe_moves(position)
+    pawn = checking_pawn(position)
+    if pawn in moves and nothing_helps(position_after(pawn, position)):
+        moves.remove(pawn)
+    return sorted(moves)
 
 
-# Whether a pawn from the hand gives check, and nothing helps against it. Pawns from the hand that
-# would give mate count as help, so the answers asked for are the safe moves, not the legal ones.
-def is_mate_by_pawn(move, position):
-    if source_of(move) != FROM_HAND + PAWN:
-        return False
+# The one move by which a pawn from the hand can give check: to right before the other's king.
+# Where that square would lie outside the board, this is a number that no move has.
+def checking_pawn(position):
+    other = 1 - position[TURN]
+    king_square = squares_of(position).index(KING + SECOND * other)
+    return move_number(FROM_HAND + PAWN, square_after(king_square, near_steps(PAWN)[0], other))
+
+
+# Whether the one to move, whom a pawn gives check, can't end it. Pawns from the hand that would
+# give mate count as help, so the answers asked for are the safe moves, not the legal ones.
+def nothing_helps(position):
+    squares = squares_of(position)
     side = position[TURN]
-    ahead = square_after(target_of(move), near_steps(PAWN)[0], side)
-    if position[ahead] != KING + SECOND * (1 - side):
+    # Most often the king itself can go, and that is quickly told.
+    if len(king_moves(squares, squares.index(KING + SECOND * side), side)) > 0:
         return False
-    return len(safe_moves(position_after(move, position))) == 0
+    return len(safe_moves(position)) == 0
 
 
 # All moves that don't leave their own king in check, mate by a pawn from the hand among them.
@@ -99,14 +112,17 @@ def hand_moves(position, squares, helping):
     moves = []
     for kind in HAND_KINDS:
         if position[HANDS + hand_place(kind, side)] > 0:
-            piece = kind + SECOND * side
             source = FROM_HAND + kind
-            moves.extend([move_number(source, target) for target in free if may_be_put(squares, piece, target)])
+            moves.extend([move_number(source, target) for target in open_squares(squares, free, kind + SECOND * side)])
     return moves
 
 
-# Whether the piece may come from the hand to this empty square.
-def may_be_put(squares, piece, target):
-    if kind_of(piece) == PAWN and piece in squares[target % 9:81:9]:
-        return False
-    return not never_moves(piece, target)
+# Those of the free squares that the piece may come to from the hand.
+def open_squares(squares, free, piece):
+    # Only these could ever be put to where they never move.
+    if kind_of(piece) not in (PAWN, LANCE, KNIGHT):
+        return free
+    found = [square for square in free if not never_moves(piece, square)]
+    if kind_of(piece) == PAWN:
+        return [square for square in found if piece not in squares[square % 9:81:9]]
+    return found

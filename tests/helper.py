@@ -1,7 +1,7 @@
 """What the tests share: texts as bytes, positions put together, moves by their names, lists that refuse to be
 changed, and the rules once more, written as plainly and slowly as can be, to hold the program's answers against."""
 
-from komadai.board import sg_moves, sg_set, sg_text
+from komadai.board import sg_moves, sg_play, sg_set, sg_text
 
 OPENING = "lnsgkgsnl/1r5b1/ppppppppp/9/9/9/PPPPPPPPP/1B5R1/LNSGKGSNL b - 1"
 
@@ -19,6 +19,76 @@ ORDINARY = (
     "k8/9/+P+L+N+S1+B+R2/9/9/9/+p+l+n+s1+b+r2/9/8K b - 9",
     "k8/9/+P+L+N+S1+B+R2/9/9/9/+p+l+n+s1+b+r2/9/8K w - 10",
 )
+
+# Positions with checks, pins, promotions, hands and mates on both sides, to be held against all that can be tried.
+TANGLED = ORDINARY + (
+    "4r3k/9/9/9/9/9/5n3/6G2/4K4 b P 1",
+    "4k4/9/3GPG3/9/9/9/3gpg3/9/4K4 w RB2S2N2L8Prb2s2n2l8p 5",
+    "lnsgk1snl/1r4gb1/p1pppp2p/6pR1/1p7/2P6/PPSPPPP1P/1BG6/LN2KGSNL b Pp 21",
+    "lr5nl/3g1kg2/2n1pp1pp/p1pps1p2/1p5P1/P1PPS1P2/1P2PPN1P/2GK1G3/LN5RL w BSbs 48",
+    "l2+R4l/4gk3/p1+P1ppn1p/5sp2/3p5/2P1PSP1P/PP1P1P3/1+b1SG1K2/L+r3G1NL b BNgsn3p 71",
+    "3+R3nl/4+Pk1g1/p2p1Sppp/2p6/5P1P1/2P1p1P2/PP1P2N1P/1SG1K4/L+r+b4+bL w GSPgs2nlp 91",
+    "1+P1g1k3/2G6/1N1SpN3/3P1p3/9/3p1P3/3n1sP2/6g2/3K1G1+p1 w RBLPrbsn2l3p 100",
+)
+
+# How many ways of one, two and three moves there are, as many other programs have counted them.
+KNOWN_WAYS = {
+    OPENING: (30, 900, 25470),
+    "l6nl/5+P1gk/2np1S3/p1p4Pp/3P2Sp1/1PPb2P1P/P5GS1/R8/LN4bKL w RGgsn5p 1": (207, 28684, 4809015),
+    "R8/2K1S1SSk/4B4/9/9/9/9/9/1L1L1L3 b RBGSNLP3g3n17p 1": (593, 105677, 53393368),
+}
+
+# The first player has no move but the pawn from the hand to 1e, and that would give mate: it isn't legal. The rook,
+# pinned by the bishop, keeps that pawn.
+ONLY_A_MATING_PAWN = "+PGGGGSSSS/PPPPPPPPL/7ll/5b1lk/4R4/8n/n7+p/8r/K7+p b P 1"
+
+# The same, but that the piece on 2d can take the pawn: so the pawn is legal, then is taken, then there's no move.
+ONLY_A_CHECKING_PAWN = "+PGGGGSSSS/PPPPPPPPL/7ll/5b1+pk/4R4/8n/n7+p/8r/K7+p b P 1"
+
+# The same, but that the pawn comes to 1e from the board: that is legal, and mate.
+ONLY_A_PAWN_ON_THE_BOARD = "+PGGGGSSSS/PPPPPPPPL/7ll/5b1lk/4R4/8P/n7+p/8r/K7+p b - 1"
+
+MATED = (
+    "8k/9/9/9/9/9/4l4/4g4/4K4 b - 1",
+    "8k/9/9/9/9/9/4l4/4g4/4K4 b RBGSNLP 1",
+    "7nk/8P/7G1/9/9/9/9/9/K8 w - 2",
+    "7nk/8P/7G1/9/9/9/9/9/K8 w rbgsnlp 2",
+    "k8/1+R7/1P7/9/9/9/9/9/8K w b 7",
+    "4k4/4G4/4G4/9/9/9/9/9/4K4 w 2r2b 30",
+)
+
+# Not in check, and nothing that could go.
+STUCK = (
+    "8k/9/9/9/9/9/1s7/2g6/K8 b - 1",
+    "8k/7P1/7S1/9/9/9/9/9/K8 w - 2",
+    "8k/6G2/7S1/9/9/9/9/9/K8 w RBP 2",
+    ONLY_A_MATING_PAWN,
+)
+
+
+# A position for each thing that keeps it from being, and some more.
+def positions_that_cannot_be(number):
+    return (
+        [0] * 96 + [number],
+        [255] * 96 + [number],
+        told(OPENING)[0:95] + [2, number],
+        told(OPENING)[0:95] + [255, number],
+        put_together({4: 24}, number=number),
+        put_together({76: 8}, turn=1, number=number),
+        put_together({4: 24, 76: 8, 78: 8}, number=number),
+        put_together({4: 24, 76: 8, 40: 13}, number=number),
+        put_together({4: 24, 76: 8, 40: 32}, number=number),
+        put_together({4: 24, 76: 8}, {0: 19}, number=number),
+        put_together({4: 24, 76: 8}, {5: 1, 12: 2}, number=number),
+        put_together({4: 24, 76: 8, 38: 15}, {6: 1, 13: 1}, number=number),
+        put_together({4: 24, 76: 8, 39: 1, 48: 1}, number=number),
+        put_together({4: 24, 76: 8, 1: 1}, number=number),
+        put_together({4: 24, 76: 8, 79: 18}, number=number),
+        put_together({4: 24, 76: 8, 64: 19}, number=number),
+        put_together({4: 24, 13: 7, 76: 8}, number=number),
+        put_together({4: 24, 67: 23, 76: 8}, turn=1, number=number),
+        put_together({40: 24, 41: 8}, number=number),
+    )
 
 
 def codes(text):
@@ -227,6 +297,40 @@ def moves_by_trying(position):
         if not (pawn_from_hand and stands_in_check(after[0:81], after[95]) and not moves_out_of_check(after)):
             moves.append(move)
     return sorted(moves)
+
+
+# How many ways there are, found by trying everything.
+def ways_by_trying(n, position, moves_of=moves_by_trying):
+    if n == 0:
+        return 1
+    return sum(ways_by_trying(n - 1, done(move, position), moves_of) for move in moves_of(position))
+
+
+def state_by_trying(position):
+    return stands_in_check(position[0:81], position[95]) + 2 * (not moves_by_trying(position))
+
+
+# How many ways there are, asked move by move of the calls that the program has for it.
+def ways_by_playing(n, position):
+    answer = sg_moves(4294967295, position)
+    if n == 1:
+        return answer[0]
+    return sum(ways_by_playing(n - 1, sg_play(move, position)[1:]) for move in answer[1:])
+
+
+# A position after each move of a game whose moves are drawn by the seed, always in the same way.
+def game_played_on(seed, most):
+    position = told(OPENING)
+    chance = seed
+    positions = [position]
+    for turn in range(most):
+        moves = sg_moves(4294967295, position)[1:]
+        if not moves:
+            break
+        chance = (chance * 1103515245 + 12345) % 2147483648
+        position = done(moves[chance // 65536 % len(moves)], position)
+        positions.append(position)
+    return positions
 
 
 class Unchangeable(list):

@@ -5,7 +5,7 @@ import unittest
 
 from komadai.board import sg_moves
 from tests.helper import (
-    OPENING, ORDINARY, Unchangeable, move_named, moves_by_trying, name_of_square, names_of_moves, put_together,
+    OPENING, TANGLED, Unchangeable, move_named, moves_by_trying, name_of_square, names_of_moves, put_together,
     square_named, told, turned, turned_move,
 )
 
@@ -46,18 +46,6 @@ FROM_THE_MIDDLE_BACK = {
     "+r": "5d 5c 5b 5a 5f 5g 5h 5i 4e 3e 2e 1e 6e 7e 8e 9e 4d 6d 4f 6f",
     "k": "4d 5d 6d 4e 6e 4f 5f 6f",
 }
-
-# Positions with checks, pins, promotions, hands and mates on both sides, to be held against all that can be tried.
-TANGLED = ORDINARY + (
-    "4r3k/9/9/9/9/9/5n3/6G2/4K4 b P 1",
-    "4k4/9/3GPG3/9/9/9/3gpg3/9/4K4 w RB2S2N2L8Prb2s2n2l8p 5",
-    "lnsgk1snl/1r4gb1/p1pppp2p/6pR1/1p7/2P6/PPSPPPP1P/1BG6/LN2KGSNL b Pp 21",
-    "lr5nl/3g1kg2/2n1pp1pp/p1pps1p2/1p5P1/P1PPS1P2/1P2PPN1P/2GK1G3/LN5RL w BSbs 48",
-    "l2+R4l/4gk3/p1+P1ppn1p/5sp2/3p5/2P1PSP1P/PP1P1P3/1+b1SG1K2/L+r3G1NL b BNgsn3p 71",
-    "3+R3nl/4+Pk1g1/p2p1Sppp/2p6/5P1P1/2P1p1P2/PP1P2N1P/1SG1K4/L+r+b4+bL w GSPgs2nlp 91",
-    "1+P1g1k3/2G6/1N1SpN3/3P1p3/9/3p1P3/3n1sP2/6g2/3K1G1+p1 w RBLPrbsn2l3p 100",
-)
-
 
 def expected_from(square, targets):
     return sorted(square + target for target in targets.split())

@@ -4,7 +4,8 @@ import unittest
 
 from komadai.board import sg_moves, sg_play
 from tests.helper import (
-    OPENING, ORDINARY, Unchangeable, done, move_named, moves_by_trying, put_together, text_from, told, turned, turned_move,
+    KNOWN_WAYS, OPENING, ORDINARY, Unchangeable, done, move_named, moves_by_trying, put_together, text_from, told, turned,
+    turned_move, ways_by_playing,
 )
 
 ALL = 4294967295
@@ -13,14 +14,6 @@ LETTERS = {1: "P", 2: "L", 3: "N", 4: "S", 5: "G", 6: "B", 7: "R"}
 
 def played(text, name):
     return sg_play(move_named(name), told(text))
-
-
-# How many ways there are, asked move by move.
-def ways(position, depth):
-    answer = sg_moves(ALL, position)
-    if depth == 1:
-        return answer[0]
-    return sum(ways(sg_play(move, position)[1:], depth - 1) for move in answer[1:])
 
 
 class Done(unittest.TestCase):
@@ -128,14 +121,10 @@ class Done(unittest.TestCase):
 
     # What is known of these positions from many other programs.
     def test_how_many_ways(self):
-        self.assertEqual(ways(told(OPENING), 2), 900)
-        self.assertEqual(ways(told(OPENING), 3), 25470)
-        text = "l6nl/5+P1gk/2np1S3/p1p4Pp/3P2Sp1/1PPb2P1P/P5GS1/R8/LN4bKL w RGgsn5p 1"
-        self.assertEqual(ways(told(text), 1), 207)
-        self.assertEqual(ways(told(text), 2), 28684)
-        text = "R8/2K1S1SSk/4B4/9/9/9/9/9/1L1L1L3 b RBGSNLP3g3n17p 1"
-        self.assertEqual(ways(told(text), 1), 593)
-        self.assertEqual(ways(told(text), 2), 105677)
+        for text, known in KNOWN_WAYS.items():
+            for n in (1, 2):
+                self.assertEqual(ways_by_playing(n, told(text)), known[n - 1], text)
+        self.assertEqual(ways_by_playing(3, told(OPENING)), 25470)
 
 
 class NotLegal(unittest.TestCase):
