@@ -2,14 +2,15 @@
 
 from komadai.moves import legal_moves
 from komadai.places import NUMBER, TURN, squares_of
-from komadai.play import position_after
+from komadai.play import position_after, tells_move
 from komadai.reach import in_check
 from komadai.rules import can_be
-from komadai.texts import codes_of, read_position, text_of, write_position
+from komadai.texts import codes_of, read_position, text_of, write_move, write_position
 from komadai.ways import count_ways
 
 NOT_TOLD = -1
 NOT_LEGAL = -1
+NO_SUCH_NUMBER = -1
 CANNOT_BE = -2
 TOO_MANY = -3
 TOO_LATE = -3
@@ -39,8 +40,7 @@ def sg_set(text):
 def sg_text(position):
     if not can_be(position):
         return [CANNOT_BE]
-    text = write_position(position)
-    return [len(text)] + codes_of(text)
+    return told(write_position(position))
 
 
 def sg_moves(most, position):
@@ -79,3 +79,14 @@ def sg_state(position):
     if len(legal_moves(position)) == 0:
         state += NO_MOVE
     return [state]
+
+
+def sg_name(move):
+    if not tells_move(move):
+        return [NO_SUCH_NUMBER]
+    return told(write_move(move))
+
+
+# How many bytes the text has, then these.
+def told(text):
+    return [len(text)] + codes_of(text)

@@ -3,9 +3,15 @@
 from komadai.pieces import PROMOTED, SECOND, plain_kind_of
 from komadai.places import HANDS, NUMBER, TURN, hand_place
 
+LAST_SQUARE = 80
+
 # A piece from the hand comes from here and its kind: 81 to 87, behind the last square.
 FROM_HAND = 80
+LAST_SOURCE = 87
 PROMOTES = 16384
+
+# The numbers of all moves lie below this.
+BEYOND_MOVES = 32768
 
 
 def move_number(source, target):
@@ -20,10 +26,25 @@ def source_of(move):
     return move // 128 % 128
 
 
+def is_from_hand(move):
+    return source_of(move) > FROM_HAND
+
+
+def promotes(move):
+    return move >= PROMOTES
+
+
+# Whether the number tells a move at all, be it one that no piece could ever do.
+def tells_move(number):
+    if number >= BEYOND_MOVES or target_of(number) > LAST_SQUARE or source_of(number) > LAST_SOURCE:
+        return False
+    return not (promotes(number) and is_from_hand(number))
+
+
 # The move has to be one that the position has: nothing of it is looked at again.
 def position_after(move, position):
     after = list(position)
-    if source_of(move) > FROM_HAND:
+    if is_from_hand(move):
         put_from_hand(move, after)
     else:
         go_on_board(move, after)
@@ -45,6 +66,6 @@ def go_on_board(move, after):
     if after[target] != 0:
         after[HANDS + hand_place(plain_kind_of(after[target]), after[TURN])] += 1
     after[target] = after[source]
-    if move >= PROMOTES:
+    if promotes(move):
         after[target] += PROMOTED
     after[source] = 0

@@ -1,13 +1,17 @@
-"""Positions told as texts, and texts read as positions."""
+"""Positions and moves told as texts, and texts read as positions."""
 
 from komadai.pieces import HAND_KINDS, KING, PIECE_NAMES, SECOND, kind_of, side_of
 from komadai.places import NUMBER, TURN, hand_place, hands_of
+from komadai.play import FROM_HAND, is_from_hand, promotes, source_of, target_of
 
 # Every sign that a position's text can have.
 SIGNS = " +-/0123456789BGKLNPRSbgklnprsw"
 
 # How many of a kind a position's hand has room for.
 MOST_IN_HAND = 255
+
+# The rows from the top.
+ROW_NAMES = "abcdefghi"
 
 
 def codes_of(text):
@@ -108,3 +112,16 @@ def read_hands(text):
 
 def is_hand_letter(sign):
     return sign in PIECE_NAMES and kind_of(PIECE_NAMES.index(sign)) != KING
+
+
+def write_move(move):
+    target = write_square(target_of(move))
+    if is_from_hand(move):
+        return PIECE_NAMES[source_of(move) - FROM_HAND] + "*" + target
+    ending = "+" if promotes(move) else ""
+    return write_square(source_of(move)) + target + ending
+
+
+# Columns are told from the right, while squares are numbered from the left.
+def write_square(square):
+    return str(9 - square % 9) + ROW_NAMES[square // 9]
